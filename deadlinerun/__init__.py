@@ -1,0 +1,1 @@
+"""Deadlinerun: jobs with times due, nearest due first."""
