@@ -100,3 +100,24 @@ def slow_run(jobs):
                 pieces.append((place, time, time + 1))
         time += 1
     return pieces
+
+
+def slow_ends(jobs):
+    """The end of each job in the slow run, by place."""
+    told = {place: end for place, begin, end in slow_run(jobs)}
+    return [told[place] for place in range(len(jobs))]
+
+
+def is_met(jobs):
+    """Whether no job is late in the slow run."""
+    return all(end <= job[2] for end, job in zip(slow_ends(jobs), jobs))
+
+
+def met_lists():
+    """The small lists in which no job is late."""
+    return [jobs for jobs in small_lists() if is_met(jobs)]
+
+
+def late_lists():
+    """The small lists in which a job is late."""
+    return [jobs for jobs in small_lists() if not is_met(jobs)]

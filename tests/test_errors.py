@@ -1,8 +1,11 @@
 import unittest
 
+from deadlinerun.answering import answer, needed
 from deadlinerun.errors import BadJob, NoRow, OutOfPlace, RunError, TooMany
 from deadlinerun.jobs import LIMIT, asked
 from deadlinerun.looking import ends, late, meets
+from deadlinerun.notes import written
+from deadlinerun.rooms import room
 from deadlinerun.running import chosen, run
 
 from samples import NO_JOBS, SIXTY, Touchy
@@ -19,6 +22,10 @@ CALLS = {
     "meets, bad place": lambda jobs: meets(jobs, [(-1, 0, 1)]),
     "ends": ends,
     "late": late,
+    "answer": answer,
+    "needed": needed,
+    "room": lambda jobs: room(jobs, 0, 9),
+    "written": written,
 }
 
 

@@ -11,6 +11,10 @@ INTERFACE = {
     "jobs.py": ["LIMIT", "sound", "asked"],
     "running.py": ["chosen", "run"],
     "looking.py": ["meets", "ends", "late"],
+    "answering.py": ["answer", "needed"],
+    "rooms.py": ["room"],
+    "book.py": ["Book"],
+    "notes.py": ["written", "read"],
 }
 
 PARAMETERS = {
@@ -21,6 +25,18 @@ PARAMETERS = {
     "meets": ["jobs", "way"],
     "ends": ["jobs"],
     "late": ["jobs"],
+    "answer": ["jobs"],
+    "needed": ["jobs"],
+    "room": ["jobs", "come", "due"],
+    "written": ["jobs"],
+    "read": ["text"],
+}
+
+METHODS = {
+    "take": ["self", "job"],
+    "drop": ["self", "place"],
+    "listed": ["self"],
+    "plan": ["self"],
 }
 
 
@@ -58,6 +74,13 @@ class Package(unittest.TestCase):
             for row in parsed(FOLDER / name).body:
                 if isinstance(row, ast.FunctionDef) and row.name in PARAMETERS:
                     self.assertEqual([told.arg for told in row.args.args], PARAMETERS[row.name])
+
+    def test_methods_are_defined_in_the_class_itself(self):
+        for row in parsed(FOLDER / "book.py").body:
+            if isinstance(row, ast.ClassDef) and row.name == "Book":
+                there = {told.name: [part.arg for part in told.args.args]
+                         for told in row.body if isinstance(told, ast.FunctionDef)}
+                self.assertEqual(there, {**METHODS, "__init__": ["self"]})
 
     def test_imports_from_the_package_alone(self):
         for path in self.files():
